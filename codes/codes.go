@@ -1,8 +1,17 @@
 // Package codes: the codes of packed bytes, and what the symbols and distances of copies stand for.
 package codes
 
+import "math/bits"
+
 // Longest is how many bits a code has at most.
 const Longest = 15
+
+// The kinds of blocks.
+const (
+	StoredBlock  = 0
+	FixedBlock   = 1
+	DynamicBlock = 2
+)
 
 // Symbols that are no bytes.
 const (
@@ -13,6 +22,25 @@ const (
 
 // LastDistance is the highest code number of a distance.
 const LastDistance = 29
+
+// How many bytes a copy has, and how far back it goes at most.
+const (
+	ShortestCopy = 3
+	LongestCopy  = 258
+	Farthest     = 32768
+)
+
+// Code numbers of lengths that stand for several lengths.
+const (
+	LengthAgain = 16
+	FewNoughts  = 17
+	ManyNoughts = 18
+)
+
+// LengthOrder is the order in which the lengths of the codes of lengths come.
+func LengthOrder() [19]int {
+	return [19]int{16, 17, 18, 0, 8, 7, 9, 6, 10, 5, 11, 4, 12, 3, 13, 2, 14, 1, 15}
+}
 
 // Code is a code's bits as a number, the highest bit first, and how many they are.
 // It is small so that a map finds it fast.
@@ -77,12 +105,12 @@ func CopyLength(symbol int) (least, extra int) {
 	i := symbol - FirstCopy
 	switch {
 	case symbol == LastCopy:
-		return 258, 0
+		return LongestCopy, 0
 	case i < 8:
-		return i + 3, 0
+		return i + ShortestCopy, 0
 	}
 	extra = i/4 - 1
-	return (4+i%4)<<extra + 3, extra
+	return (4+i%4)<<extra + ShortestCopy, extra
 }
 
 // CopyDistance is the least distance that a distance's number stands for, and how many extra bits it has.
@@ -92,4 +120,21 @@ func CopyDistance(number int) (least, extra int) {
 	}
 	extra = number/2 - 1
 	return (2+number%2)<<extra + 1, extra
+}
+
+// CopySymbol is the symbol of a copy of some length.
+func CopySymbol(length int) int {
+	if length == LongestCopy {
+		return LastCopy
+	}
+	above := length - ShortestCopy
+	extra := max(bits.Len(uint(above))-3, 0)
+	return FirstCopy + 4*extra + above>>extra
+}
+
+// DistanceNumber is the number of a distance.
+func DistanceNumber(distance int) int {
+	above := distance - 1
+	extra := max(bits.Len(uint(above))-2, 0)
+	return 2*extra + above>>extra
 }

@@ -148,3 +148,85 @@ func (p *packer) dynamic(symbols, distances []int) *packer {
 	p.head(true, 2).lengthHead(len(symbols)-257, len(distances)-1, all19)
 	return p.items(singly(symbols...)...).items(singly(distances...)...)
 }
+
+// bitsAhead reads packed bytes bit by bit, so that a test can see their blocks. It shares nothing with the program.
+type bitsAhead struct {
+	t      *testing.T
+	packed string
+	place  int
+}
+
+func (r *bitsAhead) number(bits int) int {
+	r.t.Helper()
+	n := 0
+	for i := range bits {
+		if r.place/8 >= len(r.packed) {
+			r.t.Fatal("the packed bytes end within a block")
+		}
+		n |= int(r.packed[r.place/8]) >> (r.place % 8) & 1 << i
+		r.place++
+	}
+	return n
+}
+
+func (r *bitsAhead) code(bits int) int {
+	n := 0
+	for range bits {
+		n = n<<1 | r.number(1)
+	}
+	return n
+}
+
+// fixedSymbol reads a symbol with the fixed codes.
+func (r *bitsAhead) fixedSymbol() int {
+	c := r.code(7)
+	if c < 0x18 {
+		return 256 + c
+	}
+	c = c<<1 | r.number(1)
+	switch {
+	case c < 0xc0:
+		return c - 0x30
+	case c < 0xc8:
+		return 280 + c - 0xc0
+	}
+	return 144 + (c<<1 | r.number(1)) - 0x190
+}
+
+// fixedBlock reads a block of kind 1, behind its head.
+func (r *bitsAhead) fixedBlock() {
+	for {
+		symbol := r.fixedSymbol()
+		switch {
+		case symbol == 256:
+			return
+		case symbol > 256:
+			r.number(lengthExtras[symbol-257])
+			r.number(distanceExtras[r.code(5)])
+		}
+	}
+}
+
+// kindsOf are the kinds of the blocks, up to the first one of kind 2 or 3.
+func kindsOf(t *testing.T, packed string) []int {
+	t.Helper()
+	r := &bitsAhead{t: t, packed: packed}
+	var kinds []int
+	for last := false; !last; {
+		last = r.number(1) == 1
+		kind := r.number(2)
+		kinds = append(kinds, kind)
+		switch kind {
+		case 0:
+			r.place = (r.place + 7) / 8 * 8
+			count := r.number(16)
+			r.number(16)
+			r.place += 8 * count
+		case 1:
+			r.fixedBlock()
+		default:
+			return kinds
+		}
+	}
+	return kinds
+}

@@ -4,9 +4,11 @@ package mosaic
 import (
 	"mosaic/api"
 	"mosaic/fault"
+	"mosaic/pack"
 	"mosaic/picture"
 	"mosaic/sums"
 	"mosaic/unpack"
+	"mosaic/wrap"
 )
 
 // Check tells the fault of a picture (P3).
@@ -29,13 +31,29 @@ func Inflate(b string, limit int) (out string, used int, e api.Errno) {
 }
 
 // Deflate packs bytes (P6).
-func Deflate(b string, level int) (string, api.Errno) { return "", api.OK }
+func Deflate(b string, level int) (string, api.Errno) {
+	if !pack.HasLevel(level) {
+		return "", api.ErrSetting
+	}
+	return pack.Bytes(b, level), api.OK
+}
 
 // Unwrap unpacks wrapped bytes, up to a limit (P7).
-func Unwrap(b string, limit int) (string, api.Errno) { return "", api.OK }
+func Unwrap(b string, limit int) (out string, e api.Errno) {
+	defer func() {
+		e = fault.Number(recover(), api.ErrDeflate)
+	}()
+	out = wrap.Open(b, limit)
+	return out, api.OK
+}
 
 // Wrap packs bytes and wraps them (P8).
-func Wrap(b string, level int) (string, api.Errno) { return "", api.OK }
+func Wrap(b string, level int) (string, api.Errno) {
+	if !pack.HasLevel(level) {
+		return "", api.ErrSetting
+	}
+	return wrap.Bytes(b, level), api.OK
+}
 
 // Decode reads a picture, of at most so many bytes of rows (P9).
 func Decode(b string, limit int) (api.Image, api.Errno) { return api.Image{}, api.OK }

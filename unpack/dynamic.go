@@ -6,16 +6,6 @@ import (
 	"mosaic/fault"
 )
 
-// lengthOrder is the order in which the lengths of the codes of lengths come.
-var lengthOrder = [19]int{16, 17, 18, 0, 8, 7, 9, 6, 10, 5, 11, 4, 12, 3, 13, 2, 14, 1, 15}
-
-// Code numbers of lengths that stand for several lengths.
-const (
-	lengthAgain = 16
-	fewNoughts  = 17
-	manyNoughts = 18
-)
-
 // readTables reads the codes with which a block of kind 2 begins.
 func readTables(in *bitReader) blockTables {
 	symbolCount := in.number(5) + codes.FirstCopy
@@ -33,10 +23,11 @@ func readTables(in *bitReader) blockTables {
 
 // readLengthTable reads the count of the codes of lengths, and those.
 func readLengthTable(in *bitReader) table {
-	lengths := make([]int, len(lengthOrder))
+	order := codes.LengthOrder()
+	lengths := make([]int, len(order))
 	count := in.number(4) + 4
 	for i := range count {
-		lengths[lengthOrder[i]] = in.number(3)
+		lengths[order[i]] = in.number(3)
 	}
 	if !codes.Full(lengths) {
 		panic(fault.Fault(api.ErrDeflate))
@@ -50,14 +41,14 @@ func readLengths(in *bitReader, t table, count int) []int {
 	for len(lengths) < count {
 		length, times := 0, 0
 		switch number := t.read(in); number {
-		case lengthAgain:
+		case codes.LengthAgain:
 			if len(lengths) == 0 {
 				panic(fault.Fault(api.ErrDeflate))
 			}
 			length, times = lengths[len(lengths)-1], 3+in.number(2)
-		case fewNoughts:
+		case codes.FewNoughts:
 			times = 3 + in.number(3)
-		case manyNoughts:
+		case codes.ManyNoughts:
 			times = 11 + in.number(7)
 		default:
 			length, times = number, 1

@@ -7,13 +7,6 @@ import (
 	"mosaic/fault"
 )
 
-// The kinds of blocks.
-const (
-	storedBlock  = 0
-	fixedBlock   = 1
-	dynamicBlock = 2
-)
-
 // sink is what is done with what a block brings; its functions know where they write.
 type sink struct {
 	needRoom func(count int)
@@ -30,11 +23,11 @@ func Bytes(b string, limit int) (string, int) {
 	for last := false; !last; {
 		last = in.number(1) == 1
 		switch in.number(2) {
-		case storedBlock:
+		case codes.StoredBlock:
 			readStored(in, to)
-		case fixedBlock:
+		case codes.FixedBlock:
 			readSymbols(in, fixed(), to)
-		case dynamicBlock:
+		case codes.DynamicBlock:
 			readSymbols(in, readTables(in), to)
 		default:
 			panic(fault.Fault(api.ErrDeflate))
