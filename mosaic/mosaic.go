@@ -4,6 +4,7 @@ package mosaic
 import (
 	"mosaic/api"
 	"mosaic/fault"
+	"mosaic/file"
 	"mosaic/pack"
 	"mosaic/picture"
 	"mosaic/sums"
@@ -56,7 +57,12 @@ func Wrap(b string, level int) (string, api.Errno) {
 }
 
 // Decode reads a picture, of at most so many bytes of rows (P9).
-func Decode(b string, limit int) (api.Image, api.Errno) { return api.Image{}, api.OK }
+func Decode(b string, limit int) (m api.Image, e api.Errno) {
+	defer func() {
+		e = fault.Number(recover(), api.ErrChunk)
+	}()
+	return file.Read(b, limit, Unwrap), api.OK
+}
 
 // Encode writes a picture (P10).
 func Encode(m api.Image, s api.Setting) (string, api.Errno) { return "", api.OK }

@@ -7,7 +7,7 @@ func Check(m api.Image) api.Errno {
 	switch {
 	case PointSamples(m.Kind, m.Depth) == 0:
 		return api.ErrKind
-	case !sideFits(m.Width) || !sideFits(m.Height) || RawSize(m) > api.MaxRaw:
+	case !SideFits(m.Width) || !SideFits(m.Height) || RawSize(m) > api.MaxRaw:
 		return api.ErrSide
 	case !paletteFits(m):
 		return api.ErrPalette
@@ -17,17 +17,20 @@ func Check(m api.Image) api.Errno {
 	return api.OK
 }
 
-func sideFits(side int) bool { return 1 <= side && side <= api.MaxSide }
+// SideFits tells whether a width or height may be.
+func SideFits(side int) bool { return 1 <= side && side <= api.MaxSide }
 
 func paletteFits(m api.Image) bool {
 	if m.Kind != ByPalette {
 		return len(m.Palette) == 0
 	}
-	colours := len(m.Palette) / 3
-	if len(m.Palette)%3 != 0 || colours < 1 || colours > 1<<m.Depth {
-		return false
-	}
-	return allBelow(m.Palette, 256)
+	return ColoursFit(len(m.Palette), 1<<m.Depth) && AllBelow(m.Palette, 256)
+}
+
+// ColoursFit tells whether so many numbers are three each for 1 to most colours.
+func ColoursFit(numbers, most int) bool {
+	colours := numbers / 3
+	return numbers%3 == 0 && 1 <= colours && colours <= most
 }
 
 func samplesFit(m api.Image) bool {
@@ -35,12 +38,13 @@ func samplesFit(m api.Image) bool {
 		return false
 	}
 	if m.Kind == ByPalette {
-		return allBelow(m.Samples, len(m.Palette)/3)
+		return AllBelow(m.Samples, len(m.Palette)/3)
 	}
-	return allBelow(m.Samples, 1<<m.Depth)
+	return AllBelow(m.Samples, 1<<m.Depth)
 }
 
-func allBelow(numbers []int, end int) bool {
+// AllBelow tells whether the numbers are 0 or more, and below end.
+func AllBelow(numbers []int, end int) bool {
 	for _, n := range numbers {
 		if n < 0 || n >= end {
 			return false

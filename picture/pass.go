@@ -41,11 +41,19 @@ func countSteps(start, step, end int) int {
 
 // RawSize is how many bytes the rows of a picture have, filters included; its kind and sides must be right.
 func RawSize(m api.Image) int {
-	pointBits := PointSamples(m.Kind, m.Depth) * m.Depth
 	size := 0
 	EachPass(m, func(p Pass) {
-		rowBytes := (p.Columns*pointBits + 7) / 8
-		size += p.Rows * (1 + rowBytes)
+		size += p.Rows * (1 + RowBytes(m, p))
 	})
 	return size
+}
+
+// RowBytes is how many bytes a row of the pass has behind its filter.
+func RowBytes(m api.Image, p Pass) int {
+	return (p.Columns*PointBits(m) + 7) / 8
+}
+
+// PointBits is how many bits a point has.
+func PointBits(m api.Image) int {
+	return PointSamples(m.Kind, m.Depth) * m.Depth
 }

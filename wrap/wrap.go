@@ -4,6 +4,7 @@ package wrap
 import (
 	"mosaic/api"
 	"mosaic/fault"
+	"mosaic/numbers"
 	"mosaic/pack"
 	"mosaic/sums"
 	"mosaic/unpack"
@@ -19,7 +20,7 @@ const head = "\x78\x9c"
 
 // Bytes packs a text with a level that there is, and wraps it.
 func Bytes(text string, level int) string {
-	return head + pack.Bytes(text, level) + adlerBytes(text)
+	return head + pack.Bytes(text, level) + numbers.ToFour(sums.Adler(text))
 }
 
 // Open is the text that the wrapped bytes b bring out.
@@ -32,7 +33,7 @@ func Open(b string, limit int) string {
 	if len(packed)-used != adlerSize {
 		panic(fault.Fault(api.ErrZlib))
 	}
-	if packed[used:] != adlerBytes(text) {
+	if numbers.FromFour(packed[used:]) != sums.Adler(text) {
 		panic(fault.Fault(api.ErrAdler))
 	}
 	return text
@@ -40,10 +41,4 @@ func Open(b string, limit int) string {
 
 func headMayBe(x, y int) bool {
 	return x&15 == 8 && x>>4 <= 7 && y&32 == 0 && (256*x+y)%31 == 0
-}
-
-// adlerBytes is the Adler of a text as bytes, the high one first.
-func adlerBytes(text string) string {
-	a := sums.Adler(text)
-	return string([]byte{byte(a >> 24), byte(a >> 16), byte(a >> 8), byte(a)})
 }
