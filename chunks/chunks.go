@@ -1,4 +1,4 @@
-// Package chunks: the signature and the chunks of a file. Its reader gives up by a panic with a fault.Fault.
+// Package chunks: the signature and the chunks of a file, read and written. Its reader gives up by a panic with a fault.Fault.
 package chunks
 
 import (
@@ -67,3 +67,16 @@ func capital(letter byte) bool { return 'A' <= letter && letter <= 'Z' }
 
 // Needed tells whether a reader that does not know the chunk may not leave it out.
 func (c Chunk) Needed() bool { return capital(c.Name[0]) }
+
+// File is the file of the chunks that list puts, one behind the other.
+func File(list func(put func(c Chunk))) string {
+	var file strings.Builder
+	file.WriteString(signature)
+	list(func(c Chunk) {
+		file.WriteString(numbers.ToFour(len(c.Bytes)))
+		file.WriteString(c.Name)
+		file.WriteString(c.Bytes)
+		file.WriteString(numbers.ToFour(sums.Crc(c.Name + c.Bytes)))
+	})
+	return file.String()
+}

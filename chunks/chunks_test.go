@@ -21,7 +21,7 @@ func read(b string) (list []Chunk, caught any) {
 	return list, nil
 }
 
-func TestEach(t *testing.T) {
+func TestEachAndFile(t *testing.T) {
 	for _, want := range [][]Chunk{
 		nil,
 		{{"IEND", ""}},
@@ -33,6 +33,14 @@ func TestEach(t *testing.T) {
 		}
 		if got, caught := read(b); caught != nil || !slices.Equal(got, want) {
 			t.Errorf("%v, given up with %v; want %v", got, caught, want)
+		}
+		file := File(func(put func(c Chunk)) {
+			for _, c := range want {
+				put(c)
+			}
+		})
+		if file != b {
+			t.Errorf("the file of %v is %x, want %x", want, file, b)
 		}
 	}
 }

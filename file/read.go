@@ -1,4 +1,4 @@
-// Package file: a picture as a file. Its reader gives up by a panic with a fault.Fault.
+// Package file: a picture as a file, read and written. Its reader gives up by a panic with a fault.Fault.
 package file
 
 import (

@@ -59,7 +59,7 @@ func TestP9EachFilter(t *testing.T) {
 			for i := range m.Samples {
 				m.Samples[i] = min(m.Samples[i], i*i/400+r.Intn(3))
 			}
-			raw := rowWriter{func() int { return filter }, plain.left}.rows(m)
+			raw := rowWriter{func(int) int { return filter }, plain.left}.rows(m)
 			wantDecode(t, "a smooth picture", piecesOf(m, raw).String(), len(raw), m)
 		}
 	}

@@ -107,18 +107,18 @@ func passAt(m api.Image, column, row int) int {
 	return 7
 }
 
-// rowWriter writes the rows of a picture by the words of the document, bit by bit: filter tells the next row's filter, left the next bit that is left of a last byte.
+// rowWriter writes the rows of a picture by the words of the document, bit by bit: filter tells that of the row that begins at a place, left the next bit that is left of a last byte.
 type rowWriter struct {
-	filter func() int
+	filter func(at int) int
 	left   func() int
 }
 
 // plain is with the filter 0, and noughts in what is left.
-var plain = rowWriter{func() int { return 0 }, func() int { return 0 }}
+var plain = rowWriter{func(int) int { return 0 }, func() int { return 0 }}
 
 // anyhow is with filters and bits as they fall.
 func anyhow(r *rand.Rand) rowWriter {
-	return rowWriter{func() int { return r.Intn(5) }, func() int { return r.Intn(2) }}
+	return rowWriter{func(int) int { return r.Intn(5) }, func() int { return r.Intn(2) }}
 }
 
 func (w rowWriter) rows(m api.Image) string {
@@ -136,7 +136,7 @@ func (w rowWriter) rows(m api.Image) string {
 				continue
 			}
 			line := w.bytesOf(bits)
-			filter := w.filter()
+			filter := w.filter(len(out))
 			out = append(out, byte(filter))
 			out = append(out, filtered(line, above, max(1, pointSamples(m.Kind, m.Depth)*m.Depth/8), filter)...)
 			above = line
@@ -195,8 +195,9 @@ func anyPicture(r *rand.Rand, kind, depth, width, height int, passes bool) api.I
 			m.Palette = append(m.Palette, r.Intn(256))
 		}
 	}
-	for range width * height * pointSamples(kind, depth) {
-		m.Samples = append(m.Samples, r.Intn(end))
+	m.Samples = make([]int, width*height*pointSamples(kind, depth))
+	for i := range m.Samples {
+		m.Samples[i] = r.Intn(end)
 	}
 	return m
 }

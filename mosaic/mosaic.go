@@ -65,4 +65,12 @@ func Decode(b string, limit int) (m api.Image, e api.Errno) {
 }
 
 // Encode writes a picture (P10).
-func Encode(m api.Image, s api.Setting) (string, api.Errno) { return "", api.OK }
+func Encode(m api.Image, s api.Setting) (string, api.Errno) {
+	if e := picture.Check(m); e != api.OK {
+		return "", e
+	}
+	if !file.SettingFits(s) {
+		return "", api.ErrSetting
+	}
+	return file.Write(m, s), api.OK
+}

@@ -257,7 +257,7 @@ func TestP9Filter(t *testing.T) {
 			for wrong := 0; wrong < rows; wrong++ {
 				for _, filter := range []int{5, 6, 128, 255} {
 					rows = 0
-					raw := rowWriter{func() int {
+					raw := rowWriter{func(int) int {
 						rows++
 						if rows-1 == wrong {
 							return filter

@@ -1,4 +1,4 @@
-// Package rows: the rows of a picture, and the samples in them. Its reader gives up by a panic with a fault.Fault.
+// Package rows: the rows of a picture, and the samples in them, read and written. Its reader gives up by a panic with a fault.Fault.
 package rows
 
 import (
@@ -39,13 +39,26 @@ func nearest(a, b, c int) int {
 
 func distance(x, y int) int { return max(x-y, y-x) }
 
-// restore puts back into a row what its filter took away; a point has lead bytes.
+// around are the bytes around that at place i of a row, of which a point has lead; 0 where there is none.
+func around(row, above []byte, i, lead int) (a, b, c int) {
+	if i >= lead {
+		a, c = int(row[i-lead]), int(above[i-lead])
+	}
+	return a, int(above[i]), c
+}
+
+// restore puts back into a row what its filter took away.
 func restore(row, above []byte, lead int, taken taker) {
 	for i := range row {
-		a, c := 0, 0
-		if i >= lead {
-			a, c = int(row[i-lead]), int(above[i-lead])
-		}
-		row[i] += byte(taken(a, int(above[i]), c))
+		row[i] += byte(taken(around(row, above, i, lead)))
 	}
+}
+
+// filtered is what is left of a row when its filter has taken away.
+func filtered(row, above []byte, lead int, taken taker) []byte {
+	left := make([]byte, len(row))
+	for i := range row {
+		left[i] = row[i] - byte(taken(around(row, above, i, lead)))
+	}
+	return left
 }

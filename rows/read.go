@@ -11,8 +11,7 @@ func Samples(m api.Image, raw string) []int {
 	point := picture.PointSamples(m.Kind, m.Depth)
 	samples := make([]int, m.Width*m.Height*point)
 	eachRow(m, raw, func(p picture.Pass, number int, row []byte) {
-		place := (p.Row+number*p.RowStep)*m.Width + p.Column
-		put := putter(samples[place*point:], point, p.ColumnStep)
+		put := putter(samples[firstSample(m, p, number):], point, p.ColumnStep)
 		eachSample(row, m.Depth, p.Columns*point, put)
 	})
 	// Only now, as a wrong filter in any row comes ahead of it.
@@ -24,7 +23,7 @@ func Samples(m api.Image, raw string) []int {
 
 // eachRow hands on the rows of each pass, by their numbers in it, with what their filters took away. The row is the callee's only while it runs.
 func eachRow(m api.Image, raw string, do func(p picture.Pass, number int, row []byte)) {
-	lead := max(picture.PointBits(m)/8, 1)
+	lead := leadOf(m)
 	picture.EachPass(m, func(p picture.Pass) {
 		size := picture.RowBytes(m, p)
 		row, above := make([]byte, size), make([]byte, size)
